@@ -1,132 +1,88 @@
-"""The calls that change the book: each looks whether it is allowed, then does it.
+"""The calls that change the book: a new match, the things that happen in it, and undo.
 
-Each takes the book and the call's numbers, and answers one number.
+Each answers one number; of a refusal the book is as it was.
 """
 
-from scorebook.ball import Ball, is_ball
+from scorebook.ball import Ball
 from scorebook.game import Game
-from scorebook.innings import GOES_ON, PLAYERS
+from scorebook.rules import begin_rule, DONE, REFUSED, verdict_on
 
-DONE = 0
-WRONG = -1
-REFUSED = -2
+MOST_KEPT = 32768
 
 
 class Book:
-    """What one line of calls is about; a begin that is allowed puts a new match in it."""
+    """What one line of calls is about: a match, and what undo needs of each thing that was told of it."""
 
     def __init__(self):
         self.game = None
+        self.kept = []
+
+    def is_full(self):
+        return len(self.kept) >= MOST_KEPT
 
 
 def begin(book, numbers):
-    innings_each = numbers[0]
-    over_length = numbers[2]
-    if innings_each < 1 or innings_each > 2 or over_length < 4 or over_length > 8:
-        return WRONG
-    if numbers[1] > 200 or numbers[3] > 200 or numbers[4] > 1000:
-        return WRONG
-    book.game = Game(innings_each, numbers[1], over_length, numbers[3], numbers[4])
-    return DONE
+    verdict = begin_rule(numbers)
+    if verdict == DONE:
+        book.game = Game(numbers[0], numbers[1], numbers[2], numbers[3], numbers[4])
+        book.kept = []
+    return verdict
 
 
-def open_innings(book, numbers):
-    striker = numbers[0]
-    other = numbers[1]
-    if striker >= PLAYERS or other >= PLAYERS or striker == other:
-        return WRONG
-    if book.game.current() is not None or book.game.is_over():
+def open_innings(game, numbers):
+    game.start_innings(numbers[0], numbers[1])
+
+
+def tell_bowler(game, numbers):
+    game.current().start_over(numbers[0])
+
+
+def tell_ball(game, numbers):
+    game.deliver(Ball(numbers))
+
+
+def come_in(game, numbers):
+    game.current().come_in(numbers[0])
+
+
+def retire(game, numbers):
+    game.retire(numbers[0], numbers[1])
+
+
+def penalty(game, numbers):
+    game.add_penalty(numbers[0])
+
+
+def declare(game, numbers):
+    game.close()
+
+
+def follow_on(game, numbers):
+    game.follow_on()
+
+
+def draw(game, numbers):
+    game.end_by_time()
+
+
+# By the call's number less one.
+THINGS = (open_innings, tell_bowler, tell_ball, come_in, retire, penalty, declare, follow_on, draw)
+
+
+def tell(book, number, numbers):
+    """Do what one of the calls from open to draw tells, if it may be, and keep it for undo."""
+    verdict = verdict_on(book.game, number, numbers)
+    if verdict == DONE and book.is_full():
+        verdict = REFUSED
+    if verdict == DONE:
+        book.kept.append(book.game.snapshot())
+        thing = THINGS[number - 1]
+        thing(book.game, numbers)
+    return verdict
+
+
+def undo(book):
+    if len(book.kept) == 0:
         return REFUSED
-    book.game.start_innings(striker, other)
+    book.game.restore(book.kept.pop())
     return DONE
-
-
-def tell_bowler(book, numbers):
-    player = numbers[0]
-    if player >= PLAYERS:
-        return WRONG
-    innings = book.game.current()
-    if innings is None or not book.game.may_bowl(player):
-        return REFUSED
-    innings.start_over(player)
-    return DONE
-
-
-def tell_ball(book, numbers):
-    ball = Ball(numbers)
-    if not is_ball(ball):
-        return WRONG
-    innings = book.game.current()
-    if innings is None or not innings.over_goes_on() or innings.has_empty_end():
-        return REFUSED
-    innings.deliver(ball)
-    book.game.look_for_end()
-    return DONE
-
-
-def come_in(book, numbers):
-    player = numbers[0]
-    if player >= PLAYERS:
-        return WRONG
-    innings = book.game.current()
-    if innings is None or not innings.has_empty_end() or not innings.may_come_in(player):
-        return REFUSED
-    innings.come_in(player)
-    return DONE
-
-
-def retire(book, numbers):
-    end = numbers[0]
-    hurt = numbers[1]
-    if end > 1 or hurt > 1:
-        return WRONG
-    innings = book.game.current()
-    if innings is None or innings.has_empty_end():
-        return REFUSED
-    innings.retire(end, hurt)
-    book.game.look_for_end()
-    return DONE
-
-
-def penalty(book, numbers):
-    side = numbers[0]
-    if side > 1:
-        return WRONG
-    if book.game.is_over():
-        return REFUSED
-    book.game.add_penalty(side)
-    return DONE
-
-
-def declare(book, numbers):
-    innings = book.game.current()
-    if innings is None:
-        return REFUSED
-    way = book.game.way_to_close()
-    if way == GOES_ON:
-        return REFUSED
-    innings.ended = way
-    return DONE
-
-
-def follow_on(book, numbers):
-    if not book.game.may_follow_on():
-        return REFUSED
-    book.game.followed_on = True
-    return DONE
-
-
-def draw(book, numbers):
-    if not book.game.may_be_drawn():
-        return REFUSED
-    book.game.end_by_time()
-    return DONE
-
-
-# By the call's number.
-ACTIONS = (begin, open_innings, tell_bowler, tell_ball, come_in, retire, penalty, declare, follow_on, draw)
-
-
-def act(book, number, numbers):
-    action = ACTIONS[number]
-    return action(book, numbers)

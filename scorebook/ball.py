@@ -42,8 +42,15 @@ class Ball:
         """The one run that a wide or a no ball counts besides its runs."""
         return 0 if self.kind == FAIR else 1
 
+    def tally(self, kind):
+        """What the ball adds to a count of balls of this kind."""
+        return 1 if self.kind == kind else 0
+
     def all_runs(self):
         return self.runs + self.extra()
+
+    def runs_off(self, off):
+        return self.runs if self.off == off else 0
 
     def is_off_bat(self):
         # A wide's off is 0 too, but no bat has met it.
@@ -54,7 +61,7 @@ class Ball:
 
     def bowler_runs(self):
         """The runs that the bowler answers for: all but byes and leg byes."""
-        return self.extra() + (self.runs if self.off == OFF_BAT else 0)
+        return self.extra() + self.runs_off(OFF_BAT)
 
     def is_boundary(self, runs):
         return self.line == 1 and self.is_off_bat() and self.runs == runs

@@ -1,9 +1,14 @@
 """The book as it is called: a list of calls in, a list of their answers out."""
 
-from scorebook.actions import Book, act
+from scorebook.actions import begin, Book, tell, undo
+from scorebook.reads import read
+
+BEGIN = 0
+UNDO = 10
+FIRST_READ = 11
 
 # By the call's number: how many numbers are handed over with it.
-SIZES = (5, 2, 1, 8, 1, 2, 1, 0, 0, 0)
+SIZES = (5, 2, 1, 8, 1, 2, 1, 0, 0, 0, 0, 0, 1, 2, 2, 2, 2, 3, 0)
 
 
 def answers(calls):
@@ -14,6 +19,18 @@ def answers(calls):
     while place < len(calls):
         number = calls[place]
         behind = place + 1 + SIZES[number]
-        found.extend([1, act(book, number, calls[place + 1:behind])])
+        answer = answer_one(book, number, calls[place + 1:behind])
+        found.append(len(answer))
+        found.extend(answer)
         place = behind
     return found
+
+
+def answer_one(book, number, numbers):
+    if number == BEGIN:
+        return [begin(book, numbers)]
+    if number < UNDO:
+        return [tell(book, number, numbers)]
+    if number == UNDO:
+        return [undo(book)]
+    return read(book.game, number - FIRST_READ, numbers)

@@ -8,7 +8,16 @@ OVERS_BOWLED = 3
 TARGET_PASSED = 4
 TIME_UP = 5
 
+# Results; of the three ways to win, that of side 0, and side 1's is one more.
+UNDECIDED = 0
+WON_BY_RUNS = 1
+WON_BY_WICKETS = 3
+WON_BY_AN_INNINGS = 5
+AS_MANY = 7
+NO_TIME_LEFT = 8
+
 PENALTY_RUNS = 5
+WICKETS = 10
 
 
 class Game:
@@ -31,8 +40,11 @@ class Game:
             return self.played[-1]
         return None
 
+    def innings_of(self, side):
+        return [innings for innings in self.played if innings.side == side]
+
     def runs_of(self, side):
-        return sum([innings.runs for innings in self.played if innings.side == side])
+        return sum([innings.sums.runs for innings in self.innings_of(side)])
 
     def lead_of(self, side):
         return self.runs_of(side) - self.runs_of(1 - side)
@@ -51,14 +63,28 @@ class Game:
         # Whoever bats third bats for the second time, followed on or not.
         return len(self.played) == 3 and self.lead_of(self.played[2].side) < 0
 
+    def outcome(self):
+        """The result, and by how much."""
+        if not self.is_over():
+            return [UNDECIDED, 0]
+        if self.time_is_up:
+            return [NO_TIME_LEFT, 0]
+        last = self.played[-1]
+        lead = self.lead_of(last.side)
+        if lead == 0:
+            return [AS_MANY, 0]
+        if lead > 0:
+            return [WON_BY_WICKETS + last.side, WICKETS - last.wickets_down()]
+        way = WON_BY_RUNS if self.all_opened() else WON_BY_AN_INNINGS
+        return [way + 1 - last.side, -lead]
+
     def next_side(self):
         turn = len(self.played) % 2
         return 1 - turn if self.followed_on else turn
 
     def start_innings(self, striker, other):
         side = self.next_side()
-        innings = Innings(side, self.over_length)
-        innings.set_openers(striker, other)
+        innings = Innings(side, self.over_length, striker, other)
         innings.add_penalties(self.owed[side])
         self.owed[side] = 0
         self.played.append(innings)
@@ -80,10 +106,18 @@ class Game:
         innings = self.current()
         if innings.over_goes_on() or innings.bowled_last_over(player):
             return False
-        return self.bowler_limit == 0 or innings.figures[player].overs < self.bowler_limit
+        return self.bowler_limit == 0 or innings.overs_of(player) < self.bowler_limit
+
+    def deliver(self, ball):
+        self.current().deliver(ball)
+        self.look_for_end()
+
+    def retire(self, end, hurt):
+        self.current().retire(end, hurt)
+        self.look_for_end()
 
     def add_penalty(self, side):
-        batted = [innings for innings in self.played if innings.side == side]
+        batted = self.innings_of(side)
         if len(batted) == 0:
             self.owed[side] += PENALTY_RUNS
         else:
@@ -97,12 +131,19 @@ class Game:
             return ALL_OUT
         return CLOSED if self.overs_limit == 0 else GOES_ON
 
+    def close(self):
+        innings = self.current()
+        innings.ended = self.way_to_close()
+
     def may_follow_on(self):
         if self.innings_each != 2 or len(self.played) != 2 or self.current() is not None:
             return False
         if self.followed_on or self.time_is_up or self.follow_lead == 0:
             return False
         return self.lead_of(0) >= self.follow_lead
+
+    def follow_on(self):
+        self.followed_on = True
 
     def may_be_drawn(self):
         return len(self.played) > 0 and self.overs_limit == 0 and not self.is_over()
@@ -112,3 +153,17 @@ class Game:
         if innings is not None:
             innings.ended = TIME_UP
         self.time_is_up = True
+
+    def snapshot(self):
+        """All that the next thing may change; a penalty may reach back to the last innings of either side."""
+        latest = self.innings_of(0)[-1:] + self.innings_of(1)[-1:]
+        saved = [(innings, innings.snapshot()) for innings in latest]
+        return (len(self.played), list(self.owed), self.followed_on, self.time_is_up, saved)
+
+    def restore(self, old):
+        self.played = self.played[:old[0]]
+        self.owed = list(old[1])
+        self.followed_on = old[2]
+        self.time_is_up = old[3]
+        for pair in old[4]:
+            pair[0].restore(pair[1])

@@ -2,37 +2,40 @@
 
 import unittest
 
-from line import BYES, FAIR, LEG_BYES, NO_BALL, NOBODY, WIDE
-from scorebook.actions import Book, act
+from line import BYES, FAIR, LEG_BYES, Line, NO_BALL, NOBODY, WIDE
 
 
 class Kept(unittest.TestCase):
     def setUp(self):
-        self.book = Book()
-        self.do(0, 1, 0, 4, 0, 0)
+        self.line = Line(balls=4)
         self.do(1, 5, 6)
-        self.innings = self.book.game.played[0]
 
     def do(self, *call):
-        self.assertEqual(act(self.book, call[0], list(call[1:])), 0)
+        self.assertEqual(self.line.call(*call), 0)
 
     def ball(self, runs=0, kind=FAIR, off=0, line=0, how=0, out=0, end=0, fielder=NOBODY):
         self.do(3, kind, off, runs, line, how, out, end, fielder)
 
     def batter(self, player):
-        kept = self.innings.batters[player]
-        return (kept.place, kept.runs, kept.balls, kept.fours, kept.sixes, kept.how, kept.bowler, kept.fielder)
+        return tuple(self.line.batter(0, player)[1:])
 
     def bowling(self, player):
-        kept = self.innings.figures[player]
-        return (kept.balls, kept.maidens, kept.runs, kept.wickets, kept.wides, kept.no_balls)
+        return tuple(self.line.bowling(0, player)[1:])
 
     def extras(self):
-        kept = self.innings
-        return (kept.wides, kept.no_balls, kept.byes, kept.leg_byes, kept.penalties)
+        return tuple(self.line.total(0)[5:10])
+
+    def listed(self, read):
+        found = []
+        while read(0, len(found)) != [-1]:
+            found.append(tuple(read(0, len(found))[1:]))
+        return found
+
+    def falls(self):
+        return self.listed(self.line.fall)
 
     def stands(self):
-        return [(kept.stayed, kept.came, kept.runs, kept.balls) for kept in self.innings.stands]
+        return self.listed(self.line.stand)
 
     def test_off_the_bat(self):
         self.do(2, 9)
@@ -111,8 +114,8 @@ class Kept(unittest.TestCase):
         self.do(4, 1)
         self.do(6, 0)
         self.do(5, 1, 0)
-        self.assertEqual(self.innings.falls, [(3, 5, 2), (4, 0, 2), (9, 6, 2)])
-        self.assertEqual(self.innings.wickets, 3)
+        self.assertEqual(self.falls(), [(3, 5, 2), (4, 0, 2), (9, 6, 2)])
+        self.assertEqual(self.line.total(0)[3], 3)
 
     def test_going(self):
         self.do(5, 0, 1)
@@ -123,7 +126,7 @@ class Kept(unittest.TestCase):
         self.do(4, 5)
         self.assertEqual(self.batter(5), (1, 0, 0, 0, 0, 0, 11, 11))
         self.assertEqual(self.batter(2)[0], 3)
-        self.assertEqual(self.innings.wickets, 1)
+        self.assertEqual(self.line.total(0)[3], 1)
 
     def test_partnerships(self):
         self.do(2, 9)
@@ -141,4 +144,4 @@ class Kept(unittest.TestCase):
         self.do(6, 0)
         self.do(6, 1)
         self.assertEqual(self.extras(), (0, 0, 0, 0, 5))
-        self.assertEqual(self.innings.runs, 5)
+        self.assertEqual(self.line.total(0)[2], 5)

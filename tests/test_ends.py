@@ -3,20 +3,12 @@
 import unittest
 
 from line import BYES, Line, NO_BALL, WIDE
-from scorebook.actions import Book, act
-from scorebook.book import SIZES
 
 
 def how_ended(line):
-    """How each innings of a line ended, as the book keeps it."""
-    book = Book()
-    place = 0
-    while place < len(line.calls):
-        number = line.calls[place]
-        behind = place + 1 + SIZES[number]
-        act(book, number, line.calls[place + 1:behind])
-        place = behind
-    return [innings.ended for innings in book.game.played]
+    """How each innings of a line ended."""
+    opened = line.now()[1]
+    return [line.total(k)[10] for k in range(opened)]
 
 
 class InningsEnds(unittest.TestCase):

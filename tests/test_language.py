@@ -130,6 +130,27 @@ class Form(unittest.TestCase):
                 if isinstance(node, ast.Name):
                     self.assertIn(node.id, known, path)
 
+    def test_comparisons_and_texts(self):  # L13, L20, L27
+        for path, tree in self.trees.items():
+            for node in ast.walk(tree):
+                self.assertNotIsInstance(node, ast.Set, path)
+                if isinstance(node, ast.Compare) and any(isinstance(op, (ast.Is, ast.IsNot)) for op in node.ops):
+                    self.assertIsInstance(node.comparators[0], ast.Constant, path)
+                    self.assertIn(node.comparators[0].value, (None, True, False), path)
+                if isinstance(node, ast.Constant) and isinstance(node.value, str):
+                    self.assertNotIn("%", node.value, path)
+                self.assertNotIsInstance(node, (ast.Try, ast.JoinedStr, ast.Pow), path)
+
+    def test_walked_at_once(self):  # L22, L23
+        for path, tree in self.trees.items():
+            walked = [node.iter for node in ast.walk(tree) if isinstance(node, (ast.For, ast.comprehension))]
+            for node in ast.walk(tree):
+                if isinstance(node, ast.Call) and isinstance(node.func, ast.Name):
+                    if node.func.id in ("range", "zip", "enumerate", "reversed"):
+                        self.assertIn(node, walked, path)
+                if isinstance(node, ast.Call):
+                    self.assertEqual(node.keywords, [], path)
+
     def test_methods_and_values(self):  # L18, L25, L26
         methods = set()
         values = set()
