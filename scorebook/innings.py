@@ -89,6 +89,7 @@ class Innings:
         self.batters[striker] = self.batters[striker].after(ball)
         self.figures[bowler] = self.figures[bowler].after(ball)
         self.stands[-1] = self.stands[-1].after(ball)
+        # Before the over is counted on: a wicket asks who bowls, and of a whole over nobody does.
         self.move_batters(ball)
         self.overs[-1] = self.overs[-1].after(ball)
         self.told.append(written(ball))
